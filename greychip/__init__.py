@@ -1,0 +1,1 @@
+"""A camera's chip: counts are taken, cleaned, mended, and told in colours and in grey."""

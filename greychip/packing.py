@@ -1,0 +1,11 @@
+"""Packed counts: two of them, of twelve bits each, in three bytes."""
+
+
+def unpacked(packed):
+    """The counts that the bytes hold."""
+    counts = []
+    for at in range(0, len(packed), 3):
+        shared = packed[at + 1]
+        counts.append(packed[at] + 256 * (shared % 16))
+        counts.append(shared // 16 + 16 * packed[at + 2])
+    return counts
