@@ -22,3 +22,8 @@ def mirrored(k):
 def count_at(counts, x, y):
     """The count at a place, which may lie beyond an edge."""
     return counts[SIDE * mirrored(y) + mirrored(x)]
+
+
+def row_of(numbers, y):
+    """The row y of a frame or a picture, as a list of its own."""
+    return numbers[SIDE * y:SIDE * y + SIDE]

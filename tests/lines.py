@@ -5,6 +5,11 @@ from greychip.camera import answers
 OPEN = [1]
 GREY = [8]
 BINS = [9]
+SPREAD = [10]
+EDGES = [11]
+PACK = [15]
+
+WRONG = [-1, 16, 17, -2147483648, 2147483647]
 
 
 def pack(counts):
@@ -37,6 +42,28 @@ def row(y):
 
 def colours(x, y):
     return [7, x, y]
+
+
+def order(y, code):
+    return [12, y, code]
+
+
+def mask(y, h, m, b):
+    return [13, y, h, len(m)] + list(m) + [len(b)] + list(b)
+
+
+def byte_row(y):
+    return [14, y]
+
+
+def parts(y):
+    return [16, y]
+
+
+def wholes(how, *doubles):
+    """Each double is given as (z, e)."""
+    numbers = [number for double in doubles for number in double]
+    return [17, how, len(numbers)] + numbers
 
 
 def split(told):
@@ -78,6 +105,14 @@ def frame_behind(*calls):
             raise AssertionError(f"not a row: {part}")
         frame.extend(part[1:])
     return frame
+
+
+def picture_behind(*calls):
+    """The picture's 256 bytes behind these calls."""
+    told = last(*calls, GREY)
+    if told[0] != 0 or len(told) != 257:
+        raise AssertionError(f"not a picture: {told}")
+    return told[1:]
 
 
 def level(count):

@@ -1,6 +1,6 @@
 """A second way to reckon what a chip tells: on a frame laid out with two places more at each edge."""
 
-from math import floor
+from math import floor, trunc
 from fractions import Fraction
 
 
@@ -69,3 +69,48 @@ def bins(counts):
         for x in range(16):
             sums[8 * (y // 2) + x // 2] += counts[16 * y + x]
     return sums
+
+
+def spread(counts):
+    return [sum(256 * k <= count <= 256 * k + 255 for count in counts) for k in range(16)]
+
+
+def edges(picture_bytes):
+    far = 0
+    for at in range(256):
+        if at % 16 != 15:
+            far += max(picture_bytes[at:at + 2]) - min(picture_bytes[at:at + 2])
+    return far
+
+
+def ordered(counts, y, code):
+    """The frame behind an order of row y; code is read as four digits in base four, written lowest last."""
+    digits = [int(digit) for digit in f"{code >> 6 & 3}{code >> 4 & 3}{code >> 2 & 3}{code & 3}"]
+    after = list(counts)
+    for start in range(16 * y, 16 * y + 16, 4):
+        four = counts[start:start + 4]
+        after[start:start + 4] = [four[digit] for digit in reversed(digits)]
+    return after
+
+
+def masked(picture_bytes, y, h, m, b):
+    after = list(picture_bytes)
+    start = 16 * y + 8 * h
+    after[start:start + 8] = [new if mark >> 7 else old for old, mark, new in zip(after[start:start + 8], m, b)]
+    return after
+
+
+def single(count):
+    part = Fraction(count, 4096)
+    return [part.numerator, 1 - part.denominator.bit_length()] if count else [0, 0]
+
+
+def is_handed_in(z, e):
+    size = abs(z) * Fraction(2) ** e
+    return size == 0 or Fraction(1, 2 ** 60) <= size <= 2 ** 20
+
+
+def whole(z, e, how):
+    exact = z * Fraction(2) ** (e + 12)
+    made = trunc(exact) if how else round(exact)
+    return sorted([-32768, made, 32767])[1]

@@ -3,9 +3,7 @@
 import unittest
 
 import model
-from lines import BINS, GREY, OPEN, colours, dark, gains, hot, last, level, noise, row, say, spots, take
-
-WRONG = [-1, 16, 17, -2147483648, 2147483647]
+from lines import BINS, GREY, OPEN, WRONG, colours, dark, gains, hot, last, level, noise, row, say, spots, take
 
 
 class Row(unittest.TestCase):
